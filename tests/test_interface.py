@@ -1,0 +1,83 @@
+"""The names and arguments of the interface, each defined in the file under which it is listed."""
+
+import importlib
+import inspect
+import unittest
+from pathlib import Path
+
+from algebraparts.algebra import Algebra
+from algebraparts.errors import NoText, Refused
+
+PACKAGE = Path(__file__).resolve().parent.parent / "algebraparts"
+
+FUNCTIONS = {
+    "whole": ("is_integer(value)", "power(a, k)", "divisors(n)", "inverse(a, p)"),
+    "linear": (
+        "is_row(value, p, n)", "add(v, w, p)", "scaled(v, a, p)", "dot(v, w, p)", "combine(rows, weights, width, p)",
+        "reduced(rows, width, p)", "span(rows, width, p)", "kernel(rows, width, p)", "relations(rows, width, p)",
+        "solve(rows, width, right, p)", "coordinates(rows, v, p)", "rest(space, v, p)", "space_holds(space, v, p)",
+        "sum_of(a, b, width, p)", "common_part(a, b, width, p)", "members(space, width, p)",
+    ),
+    "algebra": ("read_algebra(text)",),
+    "build": (
+        "matrix_algebra(p, m)", "triangular_algebra(p, m)", "polynomial_quotient(p, f)", "direct_product(a, b)",
+        "tensor_product(a, b)", "opposite(a)", "changed(a, rows)", "meant(a, rows, x)",
+    ),
+    "groups": (
+        "cyclic_table(n)", "dihedral_table(n)", "direct_table(one, two)", "is_group(value)", "group_algebra(p, table)",
+    ),
+    "paths": ("incidence_algebra(p, n, pairs)", "path_algebra(p, n, arrows)"),
+}
+
+CLASSES = {
+    "errors": {"Fault": (), "Malformed": (), "Refused": ("__init__(self, reason)",), "NoText": ("__init__(self, at)",)},
+    "algebra": {
+        "Algebra": (
+            "__init__(self, p, table)", "__eq__(self, other)", "__str__(self)", "is_element(self, value)", "zero(self)",
+            "basis(self, i)", "all_elements(self)", "add(self, x, y)", "subtract(self, x, y)", "scaled(self, c, x)",
+            "multiply(self, x, y)", "power(self, x, k)", "left(self, x)", "right(self, x)",
+        ),
+    },
+}
+
+
+class InterfaceTest(unittest.TestCase):
+
+    def test_functions(self):
+        for module_name, signatures in FUNCTIONS.items():
+            module = importlib.import_module("algebraparts." + module_name)
+            for signature in signatures:
+                name = signature.partition("(")[0]
+                function = getattr(module, name)
+                self.assertTrue(inspect.isfunction(function))
+                self.assertEqual(function.__module__, "algebraparts." + module_name)
+                self.assertEqual(name + str(inspect.signature(function)), signature)
+
+    def test_classes(self):
+        for module_name, classes in CLASSES.items():
+            module = importlib.import_module("algebraparts." + module_name)
+            for class_name, signatures in classes.items():
+                found = getattr(module, class_name)
+                self.assertTrue(inspect.isclass(found))
+                self.assertEqual(found.__module__, "algebraparts." + module_name)
+                for signature in signatures:
+                    name = signature.partition("(")[0]
+                    self.assertIn(name, vars(found))
+                    self.assertEqual(name + str(inspect.signature(vars(found)[name])), signature)
+
+    def test_generators(self):
+        from algebraparts.linear import members
+        self.assertTrue(inspect.isgeneratorfunction(members))
+        self.assertTrue(inspect.isgeneratorfunction(Algebra.all_elements))
+
+    def test_fields_are_set_on_each_object(self):
+        self.assertEqual(vars(Refused("unit")), {"reason": "unit"})
+        self.assertEqual(vars(NoText(3)), {"at": 3})
+        self.assertLessEqual({"p", "n", "table", "one"}, set(vars(Algebra(2, [[(1,)]]))))
+
+    def test_the_package_defines_nothing(self):
+        self.assertEqual((PACKAGE / "__init__.py").read_text(), "")
+
+
+if __name__ == "__main__":
+    unittest.main()
