@@ -35,8 +35,9 @@ def has_circle(pairs):
     waiting = [point for point in coming if coming[point] == 0]
     removed = 0
     while waiting:
+        point = waiting.pop()
         removed += 1
-        for last in after.get(waiting.pop(), []):
+        for last in after.get(point, []):
             coming[last] -= 1
             if coming[last] == 0:
                 waiting.append(last)
@@ -57,21 +58,17 @@ def incidence_algebra(p, n, pairs):
     check_quiver(p, n, pairs)
     if has_circle([(i, j) for i, j in pairs if i != j]):
         raise Refused("order")
-    # There are at least as many pairs as points, so few points are left.
+    # Each point makes a pair: where there are many, the pairs need not be listed.
     check_size(p, n)
-    order = least_order(n, pairs)
-    check_size(p, len(order))
-    return algebra_of_pairs(p, order)
+    return algebra_of_pairs(p, least_order(n, pairs))
 
 
-def all_paths(p, n, arrows):
+def all_paths(n, arrows):
     """Return the list of the paths, in order: tuples (first, last, indexes of the arrows)."""
-    check_size(p, n + len(arrows))
     level = [(point, point, ()) for point in range(n)]
     found = []
     while level:
         found = found + level
-        check_size(p, len(found))
         level = longer_paths(level, arrows)
     return found
 
@@ -91,7 +88,10 @@ def path_algebra(p, n, arrows):
     check_quiver(p, n, arrows)
     if has_circle(arrows):
         raise Refused("circle")
-    paths = all_paths(p, n, arrows)
+    # Each point and each arrow is a path: where there are many, the paths may be far too
+    # many to be listed.
+    check_size(p, n + len(arrows))
+    paths = all_paths(n, arrows)
     places = {}
     for k, (first, _, indexes) in enumerate(paths):
         places[first, indexes] = k

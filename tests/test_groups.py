@@ -227,6 +227,7 @@ class GroupAlgebraTest(unittest.TestCase):
             self.assertEqual(group_algebra(p, cyclic_table(LARGEST[p])).n, LARGEST[p])
             for n in (LARGEST[p] + 1, LARGEST[p] + 2, 40, 100):
                 check_refused(self, "large", group_algebra, p, cyclic_table(n))
+        check_refused(self, "large", group_algebra, 2, cyclic_table(700))
 
 
 if __name__ == "__main__":
