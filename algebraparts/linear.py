@@ -135,6 +135,43 @@ def space_holds(space, v, p):
     return first_place(rest(space, v, p)) == len(v)
 
 
+def is_reduced(value, p, width):
+    """Return True if the value is the reduced table of a space, for every value."""
+    # A reduced table has at most as many rows as places, so a longer value is not looked through.
+    if not isinstance(value, tuple) or len(value) > width:
+        return False
+    return all([is_row(row, p, width) for row in value]) and span(value, width, p) == value
+
+
+def pivots_of(space):
+    """Return the list of the pivots of a reduced table."""
+    return [first_place(row) for row in space]
+
+
+def free_places(space, width):
+    """Return the list of the places that are no pivots of a reduced table."""
+    pivots = pivots_of(space)
+    return [k for k in range(width) if k not in pivots]
+
+
+def at_places(v, places):
+    """Return the items of a row at some places."""
+    return tuple([v[k] for k in places])
+
+
+def class_of(space, v, p):
+    """Return the items, at the free places, of `v` less the row of the space that clears its pivots."""
+    return at_places(rest(space, v, p), free_places(space, len(v)))
+
+
+def spread(items, space, width):
+    """Return the row with these items at the free places of a space, and 0 at the pivots."""
+    out = [0] * width
+    for place, a in zip(free_places(space, width), items):
+        out[place] = a
+    return tuple(out)
+
+
 def sum_of(a, b, width, p):
     """Return the space of all sums of a row of the one space and a row of the other."""
     return span((*a, *b), width, p)

@@ -26,6 +26,22 @@ FUNCTIONS = {
     "groups": (
         "cyclic_table(n)", "dihedral_table(n)", "direct_table(one, two)", "is_group(value)", "group_algebra(p, table)",
     ),
+    "ideals": (
+        "span(algebra, rows)", "is_space(algebra, value)", "left_ideal(algebra, rows)", "right_ideal(algebra, rows)",
+        "ideal(algebra, rows)", "is_left_ideal(algebra, value)", "is_right_ideal(algebra, value)",
+        "is_ideal(algebra, value)", "products(algebra, one, two)", "power_of(algebra, space, k)",
+        "nilpotency(algebra, space)", "left_annihilator(algebra, space)", "right_annihilator(algebra, space)",
+        "quotient(algebra, space)", "quotient_image(algebra, space, x)", "quotient_lift(algebra, space, y)",
+        "image_space(algebra, space, u)", "lifted_space(algebra, space, classes)",
+    ),
+    "centre": (
+        "centralizer(algebra, rows)", "centre(algebra)", "commutator_space(algebra)",
+        "generated_algebra(algebra, rows)", "is_commutative(algebra)", "minimal_polynomial(algebra, x)",
+        "value_at(algebra, f, x)", "is_unit(algebra, x)", "is_nilpotent(algebra, x)", "inverse(algebra, x)",
+        "zero_partner(algebra, x)", "units(algebra)",
+    ),
+    "radical": ("radical(algebra)", "radical_powers(algebra)", "radical_index(algebra)", "is_semisimple(algebra)"),
+    "lifting": ("is_idempotent(algebra, x)", "lifted(algebra, ideal, x)", "lifted_system(algebra, ideal, rows)"),
     "paths": ("incidence_algebra(p, n, pairs)", "path_algebra(p, n, arrows)"),
 }
 
@@ -66,8 +82,10 @@ class InterfaceTest(unittest.TestCase):
                     self.assertEqual(name + str(inspect.signature(vars(found)[name])), signature)
 
     def test_generators(self):
+        from algebraparts.centre import units
         from algebraparts.linear import members
         self.assertTrue(inspect.isgeneratorfunction(members))
+        self.assertTrue(inspect.isgeneratorfunction(units))
         self.assertTrue(inspect.isgeneratorfunction(Algebra.all_elements))
 
     def test_fields_are_set_on_each_object(self):

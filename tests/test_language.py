@@ -98,7 +98,7 @@ class LanguageTest(unittest.TestCase):
         for path, tree in trees():
             imported = {alias.name for node in tree.body if isinstance(node, ast.ImportFrom) for alias in node.names}
             classes = {node.name for node in tree.body if isinstance(node, ast.ClassDef)}
-            generators = {"members", "all_elements"}
+            generators = {"members", "all_elements", "units"}
             for node in ast.walk(tree):
                 if isinstance(node, ast.FunctionDef):
                     for name in bound_names(node):
