@@ -7,6 +7,8 @@ from pathlib import Path
 
 from algebraparts.algebra import Algebra
 from algebraparts.errors import NoText, Refused
+from algebraparts.modules import Module
+from algebraparts.structure import structure
 
 PACKAGE = Path(__file__).resolve().parent.parent / "algebraparts"
 
@@ -42,6 +44,18 @@ FUNCTIONS = {
     ),
     "radical": ("radical(algebra)", "radical_powers(algebra)", "radical_index(algebra)", "is_semisimple(algebra)"),
     "lifting": ("is_idempotent(algebra, x)", "lifted(algebra, ideal, x)", "lifted_system(algebra, ideal, rows)"),
+    "idempotents": (
+        "block_idempotents(algebra)", "is_connected(algebra)", "corner(algebra, e)", "is_primitive(algebra, e)",
+        "primitive_decomposition(algebra)", "linking(algebra, e, f)", "kinds(algebra, idempotents)",
+        "basic_idempotents(algebra)", "between(algebra, e, f)", "peirce_parts(algebra, idempotents)",
+    ),
+    "structure": (
+        "structure(algebra)", "wedderburn_type(algebra)", "matrix_at(algebra, block, x)", "unit_count(algebra)",
+    ),
+    "modules": (
+        "regular(algebra)", "direct_sum(a, b)", "submodule(module, vectors)", "is_submodule(module, value)",
+        "restricted(module, space)", "quotient_module(module, space)",
+    ),
     "paths": ("incidence_algebra(p, n, pairs)", "path_algebra(p, n, arrows)"),
 }
 
@@ -52,6 +66,12 @@ CLASSES = {
             "__init__(self, p, table)", "__eq__(self, other)", "__str__(self)", "is_element(self, value)", "zero(self)",
             "basis(self, i)", "all_elements(self)", "add(self, x, y)", "subtract(self, x, y)", "scaled(self, c, x)",
             "multiply(self, x, y)", "power(self, x, k)", "left(self, x)", "right(self, x)",
+        ),
+    },
+    "structure": {"Block": ("__eq__(self, other)",)},
+    "modules": {
+        "Module": (
+            "__init__(self, algebra, m, tables)", "__eq__(self, other)", "is_vector(self, value)", "act(self, x, v)",
         ),
     },
 }
@@ -92,6 +112,10 @@ class InterfaceTest(unittest.TestCase):
         self.assertEqual(vars(Refused("unit")), {"reason": "unit"})
         self.assertEqual(vars(NoText(3)), {"at": 3})
         self.assertLessEqual({"p", "n", "table", "one"}, set(vars(Algebra(2, [[(1,)]]))))
+
+        algebra = Algebra(2, [[(1,)]])
+        self.assertLessEqual({"m", "d", "units", "generator", "polynomial"}, set(vars(structure(algebra)[0])))
+        self.assertLessEqual({"algebra", "m", "tables"}, set(vars(Module(algebra, 0, [[]]))))
 
     def test_the_package_defines_nothing(self):
         self.assertEqual((PACKAGE / "__init__.py").read_text(), "")
