@@ -3,8 +3,8 @@
 import unittest
 
 from algebras import (
-    DUAL, drawn_algebras, field, least_algebras, members_of, numbers, plain_nilpotent, small_algebras, tiny_algebras,
-    total, truncated,
+    DUAL, drawn_algebras, field, least_algebras, members_of, numbers, plain_nilpotent, small_algebras, total,
+    truncated,
 )
 from samples import ODD_VALUES, PRIMES, check_malformed, check_refused, kinds_of, spanned, unchanged
 from test_centre import NO_ELEMENTS

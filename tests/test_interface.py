@@ -8,6 +8,7 @@ from pathlib import Path
 from algebraparts.algebra import Algebra
 from algebraparts.errors import NoText, Refused
 from algebraparts.modules import Module
+from algebraparts.replies import Reply
 from algebraparts.structure import structure
 
 PACKAGE = Path(__file__).resolve().parent.parent / "algebraparts"
@@ -56,6 +57,18 @@ FUNCTIONS = {
         "regular(algebra)", "direct_sum(a, b)", "submodule(module, vectors)", "is_submodule(module, value)",
         "restricted(module, space)", "quotient_module(module, space)",
     ),
+    "homs": ("homomorphisms(a, b)", "degree(module)", "find_isomorphism(a, b)"),
+    "series": (
+        "is_simple(module)", "module_radical(module)", "socle(module)", "loewy_length(module)", "projective(algebra, e)",
+        "simple_modules(algebra)", "multiplicities(module)", "cartan_matrix(algebra)", "composition_series(module)",
+    ),
+    "papers": ("radical_paper(algebra)", "primitive_paper(algebra)", "map_paper(a, b)"),
+    "checker": ("takes_radical(algebra, paper)", "takes_primitive(algebra, paper)", "takes_map(a, b, paper)"),
+    "sheet": ("read_line(line)",),
+    "replies": ("reply_to(names, line)", "defined(names, line)", "is_right(names, entry)"),
+    "log": (
+        "write_data(data)", "read_data(text)", "write_log(entries)", "read_log(text)", "first_wrong(entries)",
+    ),
     "paths": ("incidence_algebra(p, n, pairs)", "path_algebra(p, n, arrows)"),
 }
 
@@ -72,6 +85,12 @@ CLASSES = {
     "modules": {
         "Module": (
             "__init__(self, algebra, m, tables)", "__eq__(self, other)", "is_vector(self, value)", "act(self, x, v)",
+        ),
+    },
+    "replies": {"Reply": ("__init__(self, kind, text='', data=())", "__eq__(self, other)")},
+    "console": {
+        "Console": (
+            "__init__(self, *, most=300)", "enter(self, line)", "__len__(self)", "__iter__(self)", "names(self)", "log(self)",
         ),
     },
 }
@@ -116,6 +135,7 @@ class InterfaceTest(unittest.TestCase):
         algebra = Algebra(2, [[(1,)]])
         self.assertLessEqual({"m", "d", "units", "generator", "polynomial"}, set(vars(structure(algebra)[0])))
         self.assertLessEqual({"algebra", "m", "tables"}, set(vars(Module(algebra, 0, [[]]))))
+        self.assertLessEqual({"kind", "text", "data"}, set(vars(Reply("done"))))
 
     def test_the_package_defines_nothing(self):
         self.assertEqual((PACKAGE / "__init__.py").read_text(), "")
