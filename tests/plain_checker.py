@@ -143,7 +143,8 @@ def radical_faults(algebra, paper):
 
     def same(x, y):
         return minus(algebra, x, y) in inside
-    units = {(at, i, j): x for at, block in enumerate(blocks) for i, row in enumerate(block[0]) for j, x in enumerate(row)}
+    units = {(at, i, j): x for at, block in enumerate(blocks) for i, row in enumerate(block[0]) for j,
+             x in enumerate(row)}
     for (a, i, j), x in units.items():
         for (b, k, m), y in units.items():
             wanted = units[a, i, m] if (a, j) == (b, k) else algebra.zero()
@@ -186,7 +187,8 @@ def primitive_faults(algebra, paper):
     for part in paper[1]:
         if part.__class__ is not tuple or len(part) != 4:
             return ["part"]
-        if not is_element(algebra, part[0]) or not is_reduced_table(algebra, part[1]) or not is_element(algebra, part[2]):
+        if not is_element(algebra, part[0]) or not is_reduced_table(algebra, part[1]) or not is_element(algebra,
+                                                                                                        part[2]):
             return ["part"]
         if part[3].__class__ is not tuple or len(part[3]) > algebra.n + 1 or not is_element_items(algebra, part[3]):
             return ["f"]

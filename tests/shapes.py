@@ -108,7 +108,9 @@ def larger_algebras():
     return [
         tensor_product(matrix_algebra(2, 2), field(2, 3)), tensor_product(triangular_algebra(2, 3), field(2)),
         direct_product(matrix_algebra(2, 3), triangular_algebra(2, 2)),
-        direct_product(tensor_product(matrix_algebra(2, 2), Algebra(2, DUAL)), tensor_product(field(2), Algebra(2, DUAL))),
-        direct_product(triangular_algebra(3, 2), matrix_algebra(3, 2)), tensor_product(field(3), triangular_algebra(3, 2)),
+        direct_product(tensor_product(matrix_algebra(2, 2), Algebra(2, DUAL)),
+                       tensor_product(field(2), Algebra(2, DUAL))),
+        direct_product(triangular_algebra(3, 2), matrix_algebra(3, 2)), tensor_product(field(3),
+                                                                                       triangular_algebra(3, 2)),
         direct_product(triangular_algebra(5, 2), field(5)), matrix_algebra(7, 2), triangular_algebra(7, 2),
     ]

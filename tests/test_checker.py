@@ -32,7 +32,8 @@ FIRST_MODULES = {"errors", "whole", "linear", "algebra", "build", "groups", "pat
 
 BIG = 10 ** 3000
 WRONG_PIECES = ODD_VALUES + (
-    BIG, -BIG, (BIG,), (0, BIG), (BIG, 1), ((BIG, 0),), [(0, 1)], ((0, 1), [0, 1]), (True, False), (0, True), ((True,),),
+    BIG, -BIG, (BIG,), (0, BIG), (BIG, 1), ((BIG, 0),), [(0, 1)], ((0, 1), [0, 1]), (True, False), (0, True),
+    ((True,),),
     "radical", ("radical",), {"a": 1}, ((((((),),),),),), [[[[[]]]]], regular(numbers(2)), structure(numbers(2)),
     structure(numbers(2))[0], radical_paper(numbers(2)), primitive_paper(numbers(2)), (Malformed("x"),), (0,) * 5000,
     ((0, 0),) * 5000, (0, 1) * 3000 + (1,),
@@ -106,9 +107,11 @@ class RadicalPaperTest(CheckerCase):
             paper = radical_paper(algebra)
             self.assertEqual(paper[1], ((0, 1, 0), (0, 0, 1)))
             self.check_radical(algebra, paper, [])
-            wrong = [((0, 0, 1), (0, 1, 0)), ((0, 1, 1), (0, 0, 1)), ((0, 1, 0), (0, 1, 1)), ((0, 1, 0), (0, 0, 1), (0, 0, 0)),
+            wrong = [((0, 0, 1), (0, 1, 0)), ((0, 1, 1), (0, 0, 1)), ((0, 1, 0), (0, 1, 1)),
+                     ((0, 1, 0), (0, 0, 1), (0, 0, 0)),
                      ((0, 0, 0), (0, 1, 0), (0, 0, 1)), ((0, 1, 0), (0, 1, 0), (0, 0, 1)), [(0, 1, 0), (0, 0, 1)],
-                     ((0, 1, 0), [0, 0, 1]), ((0, 1, 0), (0, 0, True)), ((0, 1, 0), (False, 0, 1)), ((0, 1, 0), (0, 0, 1 + p)),
+                     ((0, 1, 0), [0, 0, 1]), ((0, 1, 0), (0, 0, True)), ((0, 1, 0), (False, 0, 1)),
+                     ((0, 1, 0), (0, 0, 1 + p)),
                      ((0, 1, 0), (0, 0, 1 - p)), ((0, 1), (0, 0)), ((0, 1, 0, 0), (0, 0, 1, 0)), 0, None, "", (0, 1, 0)]
             if p > 2:
                 wrong += [((0, 2, 0), (0, 0, 1)), ((0, 1, 0), (0, 0, p - 1))]
@@ -129,7 +132,8 @@ class RadicalPaperTest(CheckerCase):
             paper = radical_paper(algebra)
             self.check_radical(algebra, paper, [])
             sides = set()
-            for space in ((unit(6, 1),), (unit(6, 4),), (unit(6, 1), unit(6, 2)), (unit(6, 2), unit(6, 4)), (unit(6, 2),)):
+            for space in ((unit(6, 1),), (unit(6, 4),), (unit(6, 1), unit(6, 2)), (unit(6, 2), unit(6, 4)),
+                          (unit(6, 2),)):
                 sides.add((is_left_ideal(algebra, space), is_right_ideal(algebra, space)))
                 self.assertIs(takes_radical(algebra, replaced(paper, (1,), space)), False)
                 faults = radical_faults(algebra, replaced(paper, (1,), space))
@@ -174,7 +178,8 @@ class RadicalPaperTest(CheckerCase):
     def test_the_word_and_the_size(self):
         for algebra in (truncated(2, 3), matrix_algebra(3, 2), numbers(5)):
             paper = radical_paper(algebra)
-            for word in ("Radical", "radica", "radical ", "primitive", "map", "", None, 0, True, ("radical",), ["radical"],
+            for word in ("Radical", "radica", "radical ", "primitive", "map", "", None, 0, True, ("radical",),
+                         ["radical"],
                          algebra, Malformed("radical")):
                 self.check_radical(algebra, replaced(paper, (0,), word), ["form"])
             for value in unlike_sizes(paper) + [paper[1:], (), ("radical",), (paper,), ("radical", *paper)]:
@@ -221,7 +226,8 @@ class RadicalPaperTest(CheckerCase):
             paper = ("radical", (), 1, ((((algebra.one,),), algebra.basis(1), square),))
             self.check_radical(algebra, paper, ["f"])
         # A cubic one, and one of the degree 5, each with a divisor of the lowest or of the highest degree.
-        for p, f in ((2, (1, 0, 0, 1)), (3, (1, 0, 0, 1)), (5, (4, 0, 0, 1)), (2, (1, 0, 0, 0, 1, 1)), (2, (1, 1, 0, 0, 0, 1)),
+        for p, f in ((2, (1, 0, 0, 1)), (3, (1, 0, 0, 1)), (5, (4, 0, 0, 1)), (2, (1, 0, 0, 0, 1, 1)),
+                     (2, (1, 1, 0, 0, 0, 1)),
                      (2, (1, 1, 1, 0, 0, 1, 0, 1))):
             algebra = polynomial_quotient(p, f)
             paper = ("radical", (), 1, ((((algebra.one,),), algebra.basis(1), f),))
@@ -364,7 +370,8 @@ class RadicalPaperTest(CheckerCase):
             paper = ("radical", (), 1, ((((algebra.one,),), algebra.one, (p - 1, 1)),))
             self.in_bases(algebra, paper, self.check_radical, ["dimension"])
             algebra = matrix_algebra(p, 2)
-            paper = ("radical", (), 1, ((((unit(4, 0),),), unit(4, 0), (p - 1, 1)), (((unit(4, 3),),), unit(4, 3), (p - 1, 1))))
+            paper = ("radical", (), 1, ((((unit(4, 0),),), unit(4, 0), (p - 1, 1)),
+                                        (((unit(4, 3),),), unit(4, 3), (p - 1, 1))))
             self.in_bases(algebra, paper, self.check_radical, ["dimension"])
 
     def test_a_superfluous_block_of_zeros(self):
@@ -411,7 +418,8 @@ class PrimitivePaperTest(CheckerCase):
         for algebra in (truncated(2, 3), matrix_algebra(3, 2), numbers(5)):
             paper = primitive_paper(algebra)
             self.check_primitive(algebra, paper, [])
-            for word in ("Primitive", "primitiv", "primitive ", "radical", "map", "", None, 0, True, ("primitive",), algebra):
+            for word in ("Primitive", "primitiv", "primitive ", "radical", "map", "", None, 0, True, ("primitive",),
+                         algebra):
                 self.check_primitive(algebra, replaced(paper, (0,), word), ["form"])
             for value in [list(paper), paper[:1], paper[1:], paper + ((),), (), paper + paper[1:], (paper,)]:
                 self.check_primitive(algebra, value, ["form"])
@@ -422,7 +430,8 @@ class PrimitivePaperTest(CheckerCase):
         algebra = direct_product(truncated(3, 2), field(3))
         paper = primitive_paper(algebra)
         self.check_primitive(algebra, paper, [])
-        for path in ((1, 0), (1, 1), (1, 0, 0), (1, 1, 0), (1, 0, 1), (1, 1, 1), (1, 0, 2), (1, 1, 2), (1, 0, 3), (1, 1, 3)):
+        for path in ((1, 0), (1, 1), (1, 0, 0), (1, 1, 0), (1, 0, 1), (1, 1, 1), (1, 0, 2), (1, 1, 2), (1, 0, 3),
+                     (1, 1, 3)):
             part = item_at(paper, path)
             wrong = [list(part), None, 0, ""] + (unlike_sizes(part) if part else [((),), (0,), [()]])
             for value in wrong:
@@ -601,7 +610,8 @@ class MapPaperTest(CheckerCase):
         for p in PRIMES:
             for q in PRIMES:
                 if p != q:
-                    for a, b in ((numbers(p), numbers(q)), (numbers(p, 2), numbers(q, 2)), (Algebra(p, DUAL), Algebra(q, DUAL))):
+                    for a, b in ((numbers(p), numbers(q)), (numbers(p, 2), numbers(q, 2)),
+                                 (Algebra(p, DUAL), Algebra(q, DUAL))):
                         images = tuple(b.basis(i) for i in range(b.n))
                         self.check_map(a, b, ("map", images), ["p"])
 
@@ -642,7 +652,8 @@ class MapPaperTest(CheckerCase):
         answers = {True: 0, False: 0}
         for p, pairs in ((2, [(numbers(2, 2), numbers(2, 2)), (Algebra(2, DUAL), field(2)), (field(2), field(2)),
                               (Algebra(2, DUAL), Algebra(2, DUAL)), (numbers(2, 2), Algebra(2, DUAL))]),
-                         (3, [(numbers(3, 2), numbers(3, 2)), (field(3), field(3)), (Algebra(3, DUAL), Algebra(3, DUAL))])):
+                         (3, [(numbers(3, 2), numbers(3, 2)), (field(3), field(3)),
+                              (Algebra(3, DUAL), Algebra(3, DUAL))])):
             rows = [(a, b) for a in range(p) for b in range(p)]
             for a, b in pairs:
                 for one in rows:

@@ -12,8 +12,10 @@ from algebraparts.console import Console
 from algebraparts.log import first_wrong, read_log
 from algebraparts.replies import Reply, reply_to
 
-LINES = ("# begin", "triangular t 2 2", "structure t", "radical t", "primitive t", "quotient q t", "isomorphic q q", "show missing",
-         "nonsense", "matrices m 3 2", "isomorphic t m", "matrices t 3 1", "product p t m", "structure p", "matrices t 9 9", "show t", "",
+LINES = ("# begin", "triangular t 2 2", "structure t", "radical t", "primitive t", "quotient q t", "isomorphic q q",
+         "show missing",
+         "nonsense", "matrices m 3 2", "isomorphic t m", "matrices t 3 1", "product p t m", "structure p",
+         "matrices t 9 9", "show t", "",
          "units p", "let t = 2 2: 10 01 01 00", "index t", "tensor u t t", "centre u", "blocks u", "opposite o u")
 
 
@@ -78,13 +80,15 @@ class ConsoleTest(unittest.TestCase):
         console.enter("product a a a")
         self.assertEqual(console.names(), {"a": direct_product(numbers(3), numbers(3))})
         # An error leaves it.
-        for line in ("matrices a 4 1", "matrices a 2 9", "product a a b", "let a = 2 1: 0", "tensor a b a", "opposite a b"):
+        for line in ("matrices a 4 1", "matrices a 2 9", "product a a b", "let a = 2 1: 0", "tensor a b a",
+                     "opposite a b"):
             self.assertEqual(console.enter(line).kind, "error")
             self.assertEqual(console.names(), {"a": direct_product(numbers(3), numbers(3))})
 
     def test_errors_add_entries_and_define_nothing(self):
         console = Console()
-        for k, line in enumerate(("x", "show a", "matrices a 4 2", "matrices a 2 4", "product a b c", "let a = 2", " #")):
+        for k, line in enumerate(("x", "show a", "matrices a 4 2", "matrices a 2 4", "product a b c", "let a = 2",
+                                  " #")):
             self.assertEqual(console.enter(line).kind, "error")
             self.assertEqual(len(console), k + 1)
             self.assertEqual(console.names(), {})
@@ -103,7 +107,8 @@ class ConsoleTest(unittest.TestCase):
                 self.assertEqual(entries, list(console))
                 self.assertEqual(first_wrong(entries), -1)
         self.assertEqual(len(console), len(LINES))
-        self.assertEqual(entered(["", "matrices a 2 1"]).log(), "> \n= done \n# ()\n> matrices a 2 1\n= algebra 2 1: 1\n# ()\n")
+        self.assertEqual(entered(["", "matrices a 2 1"]).log(),
+                         "> \n= done \n# ()\n> matrices a 2 1\n= algebra 2 1: 1\n# ()\n")
 
     def test_lines_of_all_characters(self):
         for line in ("\t", "\r", "\x0b\x0c", "\u2028", "\u00e4", "x" * 3000, "> a", "= b c", "# ()", " "):

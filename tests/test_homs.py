@@ -221,7 +221,8 @@ class FindIsomorphismTest(unittest.TestCase):
                 for a, b in ((module, module), (module, turned(module, 4)), (turned(module, 5), module)):
                     check_refused(self, "many", find_isomorphism, a, b)
         # The numbers on both sides of the edge.
-        self.assertEqual([degree(point_module(2, counts)) for counts in ([2, 2, 2], [3, 2], [2, 2, 2, 1])], [12, 13, 13])
+        self.assertEqual([degree(point_module(2, counts)) for counts in ([2, 2, 2], [3, 2], [2, 2, 2, 1])],
+                         [12, 13, 13])
         self.assertEqual([degree(point_module(3, counts)) for counts in ([2, 1, 1, 1], [2, 2])], [7, 8])
         self.assertEqual([degree(point_module(5, counts)) for counts in ([2, 1], [2, 1, 1])], [5, 6])
         self.assertEqual([degree(point_module(7, counts)) for counts in ([1] * 4, [2, 1])], [4, 5])
@@ -264,7 +265,8 @@ class UnlikeAlgebrasTest(unittest.TestCase):
         # Ahead of too many homomorphisms.
         algebra = tensor_product(numbers(2), numbers(2))
         self.assertTrue(algebra == numbers(2))
-        check_malformed(self, find_isomorphism, point_module(2, [4]), Module(Algebra(2, DUAL), 4, [identity(4), identity(4, 0)]))
+        check_malformed(self, find_isomorphism, point_module(2, [4]), Module(Algebra(2, DUAL), 4,
+                                                                             [identity(4), identity(4, 0)]))
 
 
 if __name__ == "__main__":

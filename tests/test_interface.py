@@ -59,7 +59,8 @@ FUNCTIONS = {
     ),
     "homs": ("homomorphisms(a, b)", "degree(module)", "find_isomorphism(a, b)"),
     "series": (
-        "is_simple(module)", "module_radical(module)", "socle(module)", "loewy_length(module)", "projective(algebra, e)",
+        "is_simple(module)", "module_radical(module)", "socle(module)", "loewy_length(module)",
+        "projective(algebra, e)",
         "simple_modules(algebra)", "multiplicities(module)", "cartan_matrix(algebra)", "composition_series(module)",
     ),
     "papers": ("radical_paper(algebra)", "primitive_paper(algebra)", "map_paper(a, b)"),
@@ -90,7 +91,8 @@ CLASSES = {
     "replies": {"Reply": ("__init__(self, kind, text='', data=())", "__eq__(self, other)")},
     "console": {
         "Console": (
-            "__init__(self, *, most=300)", "enter(self, line)", "__len__(self)", "__iter__(self)", "names(self)", "log(self)",
+            "__init__(self, *, most=300)", "enter(self, line)", "__len__(self)", "__iter__(self)", "names(self)",
+            "log(self)",
         ),
     },
 }

@@ -13,14 +13,16 @@ FILES = sorted(path for path in PACKAGE.iterdir() if path.name != "__pycache__")
 BUILTINS = set(vars(builtins)) - {"_"}
 ALLOWED_BUILTINS = {
     "len", "range", "enumerate", "zip", "min", "max", "sum", "abs", "sorted", "reversed", "int", "str", "bool", "list",
-    "tuple", "dict", "set", "isinstance", "ord", "repr", "any", "all", "divmod", "super", "iter", "Exception", "ValueError",
+    "tuple", "dict", "set", "isinstance", "ord", "repr", "any", "all", "divmod", "super", "iter", "Exception",
+    "ValueError",
     "TypeError", "KeyError", "IndexError",
 }
 ALLOWED_METHODS = {"__init__", "__eq__", "__str__", "__repr__", "__len__", "__iter__"}
 BARRED_WORDS = ("type", "typing", "enum", "Enum", "Flag", "Generic", "Protocol", "ABC", "namedtuple", "elements",
                 "register", "mro", "open", "input", "law", "global", "async", "lambda x, y")
 BARRED_NODES = (
-    ast.Global, ast.AsyncFunctionDef, ast.AsyncFor, ast.AsyncWith, ast.Await, ast.Div, ast.MatMult, ast.Pow, ast.SetComp,
+    ast.Global, ast.AsyncFunctionDef, ast.AsyncFor, ast.AsyncWith, ast.Await, ast.Div, ast.MatMult, ast.Pow,
+    ast.SetComp,
     ast.Set, ast.Import,
 )
 

@@ -15,8 +15,10 @@ from algebraparts.replies import Reply
 
 PAIRS = (
     (0, "0"), (1, "1"), (-1, "-1"), (10, "10"), (-10, "-10"), (123456789, "123456789"), ("a", "a"), ("z", "z"),
-    ("abcdefghijkl", "abcdefghijkl"), ("radical", "radical"), ((), "()"), ((0,), "(0)"), ((-5,), "(-5)"), (("a",), "(a)"),
-    ((1, 2), "(1 2)"), ((1, "b", -3), "(1 b -3)"), (((),), "(())"), (((), ()), "(() ())"), ((1, (2, (3,)), ()), "(1 (2 (3)) ())"),
+    ("abcdefghijkl", "abcdefghijkl"), ("radical", "radical"), ((), "()"), ((0,), "(0)"), ((-5,), "(-5)"),
+    (("a",), "(a)"),
+    ((1, 2), "(1 2)"), ((1, "b", -3), "(1 b -3)"), (((),), "(())"), (((), ()), "(() ())"),
+    ((1, (2, (3,)), ()), "(1 (2 (3)) ())"),
     ((("a", 1), ("b", 0)), "((a 1) (b 0))"), ((((((),),),),), "((((()))))"),
 )
 LONG = (10 ** 3999, 10 ** 4000 - 1, -10 ** 3999, -(10 ** 4000 - 1), 7 ** 4000, -(2 ** 13287))
@@ -64,7 +66,8 @@ class DataTest(unittest.TestCase):
             self.check_data("a" * many, "a" * many)
         for letter in "abcdefghijklmnopqrstuvwxyz":
             self.check_data(letter, letter)
-        for label in ("", "a" * 13, "A", "aB", "a1", "1a", "a b", " a", "a ", "a-b", "a_b", "-", "(", ")", "()", "(a)", "0", "1", "-1",
+        for label in ("", "a" * 13, "A", "aB", "a1", "1a", "a b", " a", "a ", "a-b", "a_b", "-", "(", ")", "()", "(a)",
+                      "0", "1", "-1",
                       "a\n", "\n", "\u00e4", "\u0430", "a\t", "~"):
             check_malformed(self, write_data, label)
             check_malformed(self, write_data, ("a", label))
@@ -78,7 +81,8 @@ class DataTest(unittest.TestCase):
                 check_malformed(self, write_data, nested(deep, inner))
                 check_no_text(self, read_data, "(" * deep + text + ")" * deep)
         check_no_text(self, read_data, "(" * 10 ** 5 + ")" * 10 ** 5)
-        self.check_data((1, nested(19), nested(18, 3)), "(1 " + "(" * 19 + ")" * 19 + " " + "(" * 18 + "3" + ")" * 18 + ")")
+        self.check_data((1, nested(19), nested(18, 3)),
+                        "(1 " + "(" * 19 + ")" * 19 + " " + "(" * 18 + "3" + ")" * 18 + ")")
         check_malformed(self, write_data, (1, nested(20)))
         check_no_text(self, read_data, "(1 " + "(" * 20 + ")" * 20 + ")")
 
@@ -86,26 +90,34 @@ class DataTest(unittest.TestCase):
         for algebra in small_algebras().values():
             for paper in (radical_paper(algebra), primitive_paper(algebra)):
                 self.assertEqual(kinds_of(read_data(write_data(paper))), kinds_of(paper))
-                self.check_data(("unlike", paper, paper), "(unlike " + write_data(paper) + " " + write_data(paper) + ")")
+                self.check_data(("unlike", paper, paper),
+                                "(unlike " + write_data(paper) + " " + write_data(paper) + ")")
 
     def test_values_that_are_no_plain_data(self):
-        values = (None, True, False, [], [1], ["a"], {}, {"a": 1}, 1.5, b"a", Malformed("x"), Algebra(2, [[(1,)]]), Reply("a"),
+        values = (None, True, False, [], [1], ["a"], {}, {"a": 1}, 1.5, b"a", Malformed("x"), Algebra(2, [[(1,)]]),
+                  Reply("a"),
                   10 ** 4001, -10 ** 5000)
         for value in values:
             for data in (value, (value,), (1, value), (value, "a"), ((value,),), (1, (2, (value, 3)))):
                 check_malformed(self, write_data, data)
 
     def test_texts_of_no_data(self):
-        for text in ("", " ", "-0", "00", "01", "-01", "007", "+1", "+0", "--1", "-", "- 1", "1-", "1.", "1_0", "0x1", "1e3", "1 ", " 1",
-                     "1 2", "a b", "a ", " a", "A", "aB", "a1", "1a", "a" * 13, "(", ")", ")(", "())", "(()", "(1", "1)", "(1))",
-                     "((1)", "( )", "( 1)", "(1 )", "(1  2)", " (1)", "(1) ", "(1)(2)", "(1) (2)", "((1)(2))", "(1(2))", "((1)2)",
-                     "(a(b))", "(1,2)", "(1, 2)", "[1]", "[]", "(1 -0)", "(01)", "(1 A)", "(1 +2)", "(\n)", "1\n", "\n1", "(1\n2)",
-                     "(1\t2)", "\t1", "1\r", "(a" * 3 + ")", "'a'", "None", "()()", "() ()", "(-)", "(1 --2)", "1" * 4001, "-" + "1" * 4001,
+        for text in ("", " ", "-0", "00", "01", "-01", "007", "+1", "+0", "--1", "-", "- 1", "1-", "1.", "1_0", "0x1",
+                     "1e3", "1 ", " 1",
+                     "1 2", "a b", "a ", " a", "A", "aB", "a1", "1a", "a" * 13, "(", ")", ")(", "())", "(()", "(1",
+                     "1)", "(1))",
+                     "((1)", "( )", "( 1)", "(1 )", "(1  2)", " (1)", "(1) ", "(1)(2)", "(1) (2)", "((1)(2))", "(1(2))",
+                     "((1)2)",
+                     "(a(b))", "(1,2)", "(1, 2)", "[1]", "[]", "(1 -0)", "(01)", "(1 A)", "(1 +2)", "(\n)", "1\n",
+                     "\n1", "(1\n2)",
+                     "(1\t2)", "\t1", "1\r", "(a" * 3 + ")", "'a'", "None", "()()", "() ()", "(-)", "(1 --2)",
+                     "1" * 4001, "-" + "1" * 4001,
                      "(" + "1" * 4001 + ")"):
             check_no_text(self, read_data, text)
 
     def test_digits_of_other_scripts(self):
-        for text in ("\u0663", "1\u0663", "\uff11", "\u00b2", "(\u0967)", "-\u0663", "\u0660", "\u2212" + "1", "\u2003", "1\u00a0"):
+        for text in ("\u0663", "1\u0663", "\uff11", "\u00b2", "(\u0967)", "-\u0663", "\u0660", "\u2212" + "1", "\u2003",
+                     "1\u00a0"):
             check_no_text(self, read_data, text)
 
     def test_values_that_are_no_texts(self):
@@ -144,7 +156,8 @@ class WriteLogTest(unittest.TestCase):
     def test_the_form(self):
         self.assertEqual(write_log([]), "")
         self.assertEqual(write_log([("", Reply("done"))]), "> \n= done \n# ()\n")
-        self.assertEqual(write_log([("radical a", Reply("number", "1", ("radical", ((0, 1),), -2))), (" x ", Reply("error", "text"))]),
+        self.assertEqual(write_log([("radical a", Reply("number", "1", ("radical", ((0, 1),), -2))),
+                                    (" x ", Reply("error", "text"))]),
                          "> radical a\n= number 1\n# (radical ((0 1)) -2)\n>  x \n= error text\n# ()\n")
 
     def test_back_and_forth(self):
@@ -165,16 +178,20 @@ class WriteLogTest(unittest.TestCase):
 
     def test_wrong_items(self):
         right = ("a", Reply("kind", "text", (1,)))
-        pieces = [None, 0, True, "", "ab", (), ("a",), ["a", Reply("kind")], ("a", Reply("kind"), 1), (Reply("kind"), "a"),
+        pieces = [None, 0, True, "", "ab", (), ("a",), ["a", Reply("kind")], ("a", Reply("kind"), 1),
+                  (Reply("kind"), "a"),
                   ("a", "b"), ("a", None), ("a", ("kind", "text", ())), Reply("kind"), {"a": 1}, ("a\n", Reply("kind")),
-                  ("\n", Reply("kind")), ("a\nb", Reply("kind")), (None, Reply("kind")), (1, Reply("kind")), (b"a", Reply("kind")),
+                  ("\n", Reply("kind")), ("a\nb", Reply("kind")), (None, Reply("kind")), (1, Reply("kind")),
+                  (b"a", Reply("kind")),
                   (("a",), Reply("kind")), (["a"], Reply("kind"))]
-        for kind in ("", "A", "a b", "a" * 13, "a1", None, 0, True, ("a",), ["a"], "a\n", " a", "\u00e4", b"a", Reply("a")):
+        for kind in ("", "A", "a b", "a" * 13, "a1", None, 0, True, ("a",), ["a"], "a\n", " a", "\u00e4", b"a",
+                     Reply("a")):
             pieces.append(("a", Reply(kind)))
             pieces.append(("a", Reply(kind, "text", (1,))))
         for text in ("\n", "a\n", "\na", "a\nb", None, 0, True, ("a",), ["a"], b"a", Reply("a")):
             pieces.append(("a", Reply("kind", text)))
-        for data in (1, "a", None, [], [1], True, {}, (True,), (None,), ([],), ("A",), ("a" * 13,), ("",), (1, (2, [3])), nested(21),
+        for data in (1, "a", None, [], [1], True, {}, (True,), (None,), ([],), ("A",), ("a" * 13,), ("",),
+                     (1, (2, [3])), nested(21),
                      ("a b",), (1.5,), (Reply("a"),), Reply("a"), ((), (False,))):
             pieces.append(("a", Reply("kind", "text", data)))
         for wrong in pieces:
@@ -201,9 +218,11 @@ class ReadLogTest(unittest.TestCase):
         self.assertEqual(len(read_log("\n".join(rows) + "\n")), len(rows) // 3)
         wrong = {
             0: ("", ">", ">x", "x", " > a", "= a b", "# ()", "<a", ">\ta", "=", "a"),
-            1: ("", "=", "= ", "=  ", "= a", "=a b", "= A b", "= a1 b", "=  a b", "= " + "a" * 13 + " b", "> a", "# ()", " = a b",
+            1: ("", "=", "= ", "=  ", "= a", "=a b", "= A b", "= a1 b", "=  a b", "= " + "a" * 13 + " b", "> a", "# ()",
+                " = a b",
                 "= a\tb", "a b", "= 1 a", "= -a b"),
-            2: ("", "#", "# ", "#()", "#  ()", "# () ", "# 1", "# a", "# -1", "# (01)", "# (", "# )", "# (1 )", "# (A)", "> a", "= a b",
+            2: ("", "#", "# ", "#()", "#  ()", "# () ", "# 1", "# a", "# -1", "# (01)", "# (", "# )", "# (1 )", "# (A)",
+                "> a", "= a b",
                 " # ()", "# " + "(" * 21 + ")" * 21, "# () ()", "()", "# None", "# (-0)"),
         }
         for at in range(len(rows)):
@@ -236,8 +255,10 @@ class ReadLogTest(unittest.TestCase):
 
     def test_short_texts(self):
         self.assertEqual(read_log(""), [])
-        for text, at in (("\n", 0), ("a", 0), (" ", 0), ("> a", 0), ("> a\n", 1), ("> a\n= b", 1), ("> a\n= b c", 1), ("> a\n= b c\n", 2),
-                         ("> a\n= b c\n# ()", 2), ("> a\n= b c\n# (", 2), ("> a\n= b c\n# (\n", 2), ("> a\n\n", 1), ("> a\r\n= b c\n# ()\n>", 3)):
+        for text, at in (("\n", 0), ("a", 0), (" ", 0), ("> a", 0), ("> a\n", 1), ("> a\n= b", 1), ("> a\n= b c", 1),
+                         ("> a\n= b c\n", 2),
+                         ("> a\n= b c\n# ()", 2), ("> a\n= b c\n# (", 2), ("> a\n= b c\n# (\n", 2), ("> a\n\n", 1),
+                         ("> a\r\n= b c\n# ()\n>", 3)):
             self.check_at(at, text)
         self.assertEqual(read_log("> a\r\n= b c\r\n# ()\n"), [("a\r", Reply("b", "c\r"))])
 
@@ -245,10 +266,14 @@ class ReadLogTest(unittest.TestCase):
 def right_entries():
     """A list of right entries, with each kind of line."""
     console = Console()
-    for line in ("# begin", "matrices m 2 2", "triangular t 2 2", "let d = 2 2: 10 01 01 00", "radical d", "structure m", "primitive t",
-                 "product m m t", "radical m", "structure m", "quotient q m", "isomorphic q q", "isomorphic q m", "show none",
-                 "let f = 2 2: 10 01 01 11", "let g = 2 2: 11 01 01 10", "isomorphic f g", "matrices f 2 1", "isomorphic f g", "index m",
-                 "centre m", "blocks m", "units m", "nothing", "", "tensor x d d", "opposite t t", "show t", "matrices x 4 2",
+    for line in ("# begin", "matrices m 2 2", "triangular t 2 2", "let d = 2 2: 10 01 01 00", "radical d",
+                 "structure m", "primitive t",
+                 "product m m t", "radical m", "structure m", "quotient q m", "isomorphic q q", "isomorphic q m",
+                 "show none",
+                 "let f = 2 2: 10 01 01 11", "let g = 2 2: 11 01 01 10", "isomorphic f g", "matrices f 2 1",
+                 "isomorphic f g", "index m",
+                 "centre m", "blocks m", "units m", "nothing", "", "tensor x d d", "opposite t t", "show t",
+                 "matrices x 4 2",
                  "matrices x 2 9", "show x"):
         console.enter(line)
     return list(console)
@@ -267,7 +292,8 @@ class FirstWrongTest(unittest.TestCase):
     def test_one_changed_entry(self):
         entries = right_entries()
         for at, (line, reply) in enumerate(entries):
-            for wrong in (Reply(reply.kind, reply.text + "x", reply.data), Reply(reply.kind + "x", reply.text, reply.data),
+            for wrong in (Reply(reply.kind, reply.text + "x", reply.data), Reply(reply.kind + "x", reply.text,
+                                                                                 reply.data),
                           Reply(reply.kind, reply.text, reply.data + (1,)), Reply("other"), None, reply.text):
                 changed = entries[:at] + [(line, wrong)] + entries[at + 1:]
                 self.assertEqual(first_wrong(changed), at)

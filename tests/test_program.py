@@ -12,7 +12,8 @@ from samples import PRIMES, drawn_basis, kinds_of, pieces_of
 from test_interface import CLASSES, FUNCTIONS
 
 from algebraparts import (
-    algebra, build, centre, checker, groups, homs, ideals, idempotents, lifting, linear, log, modules, papers, paths, radical,
+    algebra, build, centre, checker, groups, homs, ideals, idempotents, lifting, linear, log, modules, papers, paths,
+    radical,
     replies, series, sheet, structure, whole,
 )
 from algebraparts.algebra import Algebra
@@ -24,12 +25,14 @@ from algebraparts.replies import Reply
 HERE = Path(__file__).resolve().parent
 PACKAGE = HERE.parent / "algebraparts"
 CHAPTERS = (
-    ("errors", "whole", "linear"), ("algebra", "build", "groups", "paths"), ("ideals", "centre"), ("radical", "lifting"),
+    ("errors", "whole", "linear"), ("algebra", "build", "groups", "paths"), ("ideals", "centre"),
+    ("radical", "lifting"),
     ("idempotents",), ("structure",), ("modules", "homs", "series"), ("papers", "checker"),
     ("sheet", "replies", "log", "console"),
 )
 MODULES = {
-    "algebra": algebra, "build": build, "centre": centre, "checker": checker, "groups": groups, "homs": homs, "ideals": ideals,
+    "algebra": algebra, "build": build, "centre": centre, "checker": checker, "groups": groups, "homs": homs,
+    "ideals": ideals,
     "idempotents": idempotents, "lifting": lifting, "linear": linear, "log": log, "modules": modules, "papers": papers,
     "paths": paths, "radical": radical, "replies": replies, "series": series, "sheet": sheet, "structure": structure,
     "whole": whole,
@@ -51,30 +54,44 @@ def arguments_of(one):
     space = (x, ) if linear.is_reduced((x,), p, n) else ()
     top = ideals.quotient(one, lower)
     return {
-        "is_integer": (n,), "power": (3, n), "divisors": (12,), "inverse": {"whole": (3 if p != 3 else 2, p), "centre": (one, one.one)},
+        "is_integer": (n,), "power": (3, n), "divisors": (12,), "inverse": {"whole": (3 if p != 3 else 2, p),
+                                                                            "centre": (one, one.one)},
         "is_row": (x, p, n), "add": (x, e, p), "scaled": (x, 2, p), "dot": (x, e, p), "combine": (rows, [1] * n, n, p),
         "reduced": (rows, n, p), "kernel": (rows[:1], n, p), "relations": (rows + [x], n, p),
-        "span": {"linear": (rows[1:], n, p), "ideals": (one, rows[1:])}, "solve": (rows, n, list(x), p), "coordinates": (rows, x, p),
-        "rest": (space, e, p), "space_holds": (space, e, p), "sum_of": (space, lower, n, p), "common_part": (space, lower, n, p),
+        "span": {"linear": (rows[1:], n, p), "ideals": (one, rows[1:])}, "solve": (rows, n, list(x), p),
+        "coordinates": (rows, x, p),
+        "rest": (space, e, p), "space_holds": (space, e, p), "sum_of": (space, lower, n, p),
+        "common_part": (space, lower, n, p),
         "members": (lower, n, p), "read_algebra": (str(one),), "matrix_algebra": (p, 1), "triangular_algebra": (p, 2),
-        "polynomial_quotient": (p, [1, 1]), "direct_product": (one, names["b"]), "tensor_product": (one, names["b"]), "opposite": (one,),
+        "polynomial_quotient": (p, [1, 1]), "direct_product": (one, names["b"]), "tensor_product": (one, names["b"]),
+        "opposite": (one,),
         "changed": (one, rows[::-1]), "meant": (one, rows[::-1], x), "cyclic_table": (3,), "dihedral_table": (2,),
-        "direct_table": (((0, 1), (1, 0)), ((0,),)), "is_group": ([[0, 1], [1, 0]],), "group_algebra": (p, [[0, 1], [1, 0]]),
+        "direct_table": (((0, 1), (1, 0)), ((0,),)), "is_group": ([[0, 1], [1, 0]],),
+        "group_algebra": (p, [[0, 1], [1, 0]]),
         "incidence_algebra": (p, 2, [(0, 1)]), "path_algebra": (p, 2, [(0, 1)]), "is_space": (one, lower),
         "left_ideal": (one, [x]), "right_ideal": (one, [x]), "ideal": (one, [x]), "is_left_ideal": (one, lower),
-        "is_right_ideal": (one, lower), "is_ideal": (one, lower), "products": (one, [x], rows), "power_of": (one, lower, 2),
-        "nilpotency": (one, lower), "left_annihilator": (one, lower), "right_annihilator": (one, lower), "quotient": (one, lower),
+        "is_right_ideal": (one, lower), "is_ideal": (one, lower), "products": (one, [x], rows),
+        "power_of": (one, lower, 2),
+        "nilpotency": (one, lower), "left_annihilator": (one, lower), "right_annihilator": (one, lower),
+        "quotient": (one, lower),
         "quotient_image": (one, lower, x), "quotient_lift": (one, lower, top.one), "image_space": (one, lower, lower),
-        "lifted_space": (one, lower, ()), "centralizer": (one, [x]), "generated_algebra": (one, [x]), "minimal_polynomial": (one, x),
-        "value_at": (one, (1, 1), x), "is_unit": (one, x), "is_nilpotent": (one, x), "zero_partner": (one, x), "units": (one,),
-        "is_idempotent": (one, e), "lifted": (one, lower, e), "lifted_system": (one, lower, list(parts)), "corner": (one, e),
+        "lifted_space": (one, lower, ()), "centralizer": (one, [x]), "generated_algebra": (one, [x]),
+        "minimal_polynomial": (one, x),
+        "value_at": (one, (1, 1), x), "is_unit": (one, x), "is_nilpotent": (one, x), "zero_partner": (one, x),
+        "units": (one,),
+        "is_idempotent": (one, e), "lifted": (one, lower, e), "lifted_system": (one, lower, list(parts)),
+        "corner": (one, e),
         "is_primitive": (one, e), "linking": (one, e, parts[-1]), "kinds": (one, list(parts)), "between": (one, e, x),
-        "peirce_parts": (one, list(parts)), "matrix_at": (one, structure.structure(one)[0], x), "direct_sum": (module, module),
-        "submodule": (module, [x]), "is_submodule": (module, lower), "restricted": (module, lower), "quotient_module": (module, lower),
-        "homomorphisms": (module, module), "find_isomorphism": (module, module), "projective": (one, e), "map_paper": (top, top),
+        "peirce_parts": (one, list(parts)), "matrix_at": (one, structure.structure(one)[0], x),
+        "direct_sum": (module, module),
+        "submodule": (module, [x]), "is_submodule": (module, lower), "restricted": (module, lower),
+        "quotient_module": (module, lower),
+        "homomorphisms": (module, module), "find_isomorphism": (module, module), "projective": (one, e),
+        "map_paper": (top, top),
         "takes_radical": (one, papers.radical_paper(one)), "takes_primitive": (one, papers.primitive_paper(one)),
         "takes_map": (one, one, ("map", tuple(rows))), "read_line": (line,), "reply_to": (names, "structure a"),
-        "defined": (names, "product c a b"), "is_right": (names, entry), "write_data": ((1, ("a", -2)),), "read_data": ("(1 (a -2))",),
+        "defined": (names, "product c a b"), "is_right": (names, entry), "write_data": ((1, ("a", -2)),),
+        "read_data": ("(1 (a -2))",),
         "write_log": (entries,), "read_log": (log.write_log(entries),), "first_wrong": (entries,),
         "of algebra": (one,), "of module": (module,),
     }
@@ -130,8 +147,10 @@ class EachFunctionTest(unittest.TestCase):
             before = pieces_of(one)
             x, y = one.basis(0), one.one
             for _ in range(2):
-                calls = (one == one, str(one), one.is_element(x), one.zero(), one.basis(1), list(one.all_elements()), one.add(x, y),
-                         one.subtract(x, y), one.scaled(2, x), one.multiply(x, y), one.power(x, 3), one.left(x), one.right(x))
+                calls = (one == one, str(one), one.is_element(x), one.zero(), one.basis(1), list(one.all_elements()),
+                         one.add(x, y),
+                         one.subtract(x, y), one.scaled(2, x), one.multiply(x, y), one.power(x, 3), one.left(x),
+                         one.right(x))
                 self.assertEqual(pieces_of(calls), pieces_of(calls))
                 self.assertEqual(pieces_of(one), before)
             module = Module(one, one.n, one.table)

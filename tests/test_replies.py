@@ -44,7 +44,8 @@ def fields_of(reply):
 class ReplyTest(unittest.TestCase):
 
     def test_fields(self):
-        for arguments, wanted in ((("a",), ("a", "", ())), (("a", "b"), ("a", "b", ())), (("a", "b", (1,)), ("a", "b", (1,))),
+        for arguments, wanted in ((("a",), ("a", "", ())), (("a", "b"), ("a", "b", ())),
+                                  (("a", "b", (1,)), ("a", "b", (1,))),
                                   (("", "", ((),)), ("", "", ((),)))):
             reply = Reply(*arguments)
             self.assertEqual(set(vars(reply)), {"kind", "text", "data"})
@@ -53,7 +54,8 @@ class ReplyTest(unittest.TestCase):
         self.assertEqual(fields_of(Reply(data=(2,), text="t", kind="k")), ("k", "t", (2,)))
 
     def test_equality(self):
-        fields = [(kind, text, data) for kind in ("a", "b", "") for text in ("a", "b", "") for data in ((), (1,), ("a",), ((),))]
+        fields = [(kind, text, data) for kind in ("a", "b", "") for text in ("a", "b", "") for data in ((), (1,),
+                                                                                                        ("a",), ((),))]
         for one in fields:
             for two in fields:
                 self.assertIs(Reply(*one) == Reply(*two), one == two)
@@ -62,7 +64,8 @@ class ReplyTest(unittest.TestCase):
 
     def test_other_values(self):
         for reply in (Reply("a"), Reply("", "", ()), Reply("error", "text"), Reply("a", "b", (1,))):
-            for value in ODD_VALUES + (fields_of(reply), list(fields_of(reply)), reply.kind, (reply,), [reply], vars(reply),
+            for value in ODD_VALUES + (fields_of(reply), list(fields_of(reply)), reply.kind, (reply,), [reply],
+                                       vars(reply),
                                        structure(numbers(2))[0]):
                 self.assertIs(reply == value, False)
                 self.assertIs(reply != value, True)
@@ -119,7 +122,8 @@ class DefinitionsTest(unittest.TestCase):
 
     def test_lines_that_define_nothing(self):
         names = names_of(2)
-        for line in ("show one", "radical mixed", "structure mixed", "primitive mixed", "isomorphic mat turned", "index dual",
+        for line in ("show one", "radical mixed", "structure mixed", "primitive mixed", "isomorphic mat turned",
+                     "index dual",
                      "centre dual", "blocks dual", "units dual", "", "  ", "# let a = " + DUAL_TEXT):
             self.assertNotEqual(reply_to(names, line).kind, "error")
             self.assertIsNone(unchanged(self, defined, names, line))
@@ -135,12 +139,15 @@ class ErrorsTest(unittest.TestCase):
 
     def test_text(self):
         names = names_of(2)
-        for line in ("nothing", "show", "show one one", "Show one", "matrices a 2", "matrices a 2 100", "let a", "let one = 2 1: 0",
-                     " # a", "show a\t", "show one\n", "show toolongname", "x" * 2001, "show missing extra", "let a = b"):
+        for line in ("nothing", "show", "show one one", "Show one", "matrices a 2", "matrices a 2 100", "let a",
+                     "let one = 2 1: 0",
+                     " # a", "show a\t", "show one\n", "show toolongname", "x" * 2001, "show missing extra",
+                     "let a = b"):
             self.check_error(names, line, "text")
 
     def test_for_every_value(self):
-        for value in ODD_VALUES + (["show one"], ("show one",), {"show": "one"}, b"show one", 5, Reply("a"), 10 ** 5000):
+        for value in ODD_VALUES + (["show one"], ("show one",), {"show": "one"}, b"show one", 5, Reply("a"),
+                                   10 ** 5000):
             if value != "":
                 self.check_error({"one": numbers(2)}, value, "text")
 
@@ -171,7 +178,8 @@ class ErrorsTest(unittest.TestCase):
         self.check_error(names, "isomorphic missing dual", "refused name")
 
     def test_malformed(self):
-        for line in ("matrices a 0 1", "matrices a 1 2", "matrices a 4 2", "matrices a 99 2", "triangular a 6 1", "matrices a 2 0",
+        for line in ("matrices a 0 1", "matrices a 1 2", "matrices a 4 2", "matrices a 99 2", "triangular a 6 1",
+                     "matrices a 2 0",
                      "triangular a 3 0", "matrices a 4 0", "matrices a 4 99", "triangular a 9 99", "triangular a 0 0"):
             self.check_error({}, line, "malformed")
         for p in PRIMES:
@@ -183,7 +191,8 @@ class ErrorsTest(unittest.TestCase):
                         self.check_error(names, f"{word} {b} {a}", "malformed")
 
     def test_large(self):
-        for line in ("matrices a 2 4", "matrices a 3 3", "matrices a 5 3", "matrices a 7 99", "triangular a 2 5", "triangular a 3 4",
+        for line in ("matrices a 2 4", "matrices a 3 3", "matrices a 5 3", "matrices a 7 99", "triangular a 2 5",
+                     "triangular a 3 4",
                      "triangular a 7 3", "triangular a 5 99"):
             self.check_error({}, line, "refused large")
         for p, n in ((2, 12), (3, 7), (5, 5), (7, 4)):
@@ -237,8 +246,10 @@ class AnswersTest(unittest.TestCase):
     def test_known_ones(self):
         for p in PRIMES:
             names = names_of(p)
-            for line, wanted in (("radical mat", "0"), ("structure mat", "2 1"), ("primitive mat", "2"), ("radical tri", "1"),
-                                 ("structure tri", "1 1; 1 1"), ("primitive tri", "2"), ("structure f", "1 2"), ("index f", "1"),
+            for line, wanted in (("radical mat", "0"), ("structure mat", "2 1"), ("primitive mat", "2"),
+                                 ("radical tri", "1"),
+                                 ("structure tri", "1 1; 1 1"), ("primitive tri", "2"), ("structure f", "1 2"),
+                                 ("index f", "1"),
                                  ("index dual", "2"), ("centre mat", "1"), ("centre dual", "2"), ("blocks pairs", "2"),
                                  ("blocks tri", "1"), ("units f", str(p * p - 1)), ("units dual", str(p * p - p)),
                                  ("units mat", str((p * p - 1) * (p * p - p))), ("units one", str(p - 1))):
@@ -294,13 +305,16 @@ class IsRightTest(unittest.TestCase):
         """A reply is right; with another text, kind or data it is not."""
         kind, text, data = fields_of(reply_to(names, line))
         self.check_right(names, line, kind, text, data)
-        for other in ("", text + " ", " " + text, text + "0", "yes", "no", "0", "1", "17", "1 1", "text", None, 0, 1, (text,), [text]):
+        for other in ("", text + " ", " " + text, text + "0", "yes", "no", "0", "1", "17", "1 1", "text", None, 0, 1,
+                      (text,), [text]):
             if other != text:
                 self.check_wrong(names, line, kind, other, data)
-        for other in ("number", "structure", "isomorphic", "algebra", "done", "error", "", "Number", kind + " ", None, 0, (kind,)):
+        for other in ("number", "structure", "isomorphic", "algebra", "done", "error", "", "Number", kind + " ", None,
+                      0, (kind,)):
             if other != kind:
                 self.check_wrong(names, line, other, text, data)
-        for other in ODD_VALUES + (list(data), data + (1,), data + ((),), (data,), data[:-1], (True,), ([],), ("unlike",), ("radical",),
+        for other in ODD_VALUES + (list(data), data + (1,), data + ((),), (data,), data[:-1], (True,), ([],),
+                                   ("unlike",), ("radical",),
                                    ("unlike", (), ()), ("unlike", 1, 2), Reply("a"), structure(numbers(2))):
             if kinds_of(other) != kinds_of(data):
                 self.check_wrong(names, line, kind, text, other)
@@ -309,24 +323,31 @@ class IsRightTest(unittest.TestCase):
                 self.check_wrong(names, line, "error", error)
                 self.check_wrong(names, line, "error", error, data)
         if kind == "error":
-            for wrong in (("number", "0"), ("done", ""), ("algebra", DUAL_TEXT), ("isomorphic", "yes"), ("structure", "1 1")):
+            for wrong in (("number", "0"), ("done", ""), ("algebra", DUAL_TEXT), ("isomorphic", "yes"),
+                          ("structure", "1 1")):
                 self.check_wrong(names, line, *wrong)
 
     def test_all_kinds_of_lines(self):
         for p in (2, 3):
             names = names_of(p)
-            for line in (f"let a = {names['dual']}", f"matrices a {p} 2", f"triangular a {p} 2", "product a one dual", "tensor a f dual",
-                         "opposite a tri", "quotient a mixed", "show mat", "radical mixed", "radical mat", "structure mixed",
-                         "structure f", "primitive mixed", "primitive dual", "isomorphic mat turned", "isomorphic one pairs",
+            for line in (f"let a = {names['dual']}", f"matrices a {p} 2", f"triangular a {p} 2", "product a one dual",
+                         "tensor a f dual",
+                         "opposite a tri", "quotient a mixed", "show mat", "radical mixed", "radical mat",
+                         "structure mixed",
+                         "structure f", "primitive mixed", "primitive dual", "isomorphic mat turned",
+                         "isomorphic one pairs",
                          "isomorphic f pairs", "index tri", "centre mat", "blocks pairs", "units tri", "", "  ", "# a"):
                 self.assertNotEqual(reply_to(names, line).kind, "error", line)
                 self.check_changes(names, line)
 
     def test_errors(self):
         names = names_of(2)
-        for line in ("x", "show", "show missing", "radical missing", "structure missing", "primitive missing", "isomorphic one missing",
-                     "isomorphic missing one", "isomorphic one other", "isomorphic dual one", "isomorphic one dual", "matrices a 4 2",
-                     "matrices a 2 4", "product a one other", "tensor a missing one", "opposite a missing", " #", "units missing"):
+        for line in ("x", "show", "show missing", "radical missing", "structure missing", "primitive missing",
+                     "isomorphic one missing",
+                     "isomorphic missing one", "isomorphic one other", "isomorphic dual one", "isomorphic one dual",
+                     "matrices a 4 2",
+                     "matrices a 2 4", "product a one other", "tensor a missing one", "opposite a missing", " #",
+                     "units missing"):
             self.assertEqual(reply_to(names, line).kind, "error")
             self.check_changes(names, line)
 
@@ -334,12 +355,14 @@ class IsRightTest(unittest.TestCase):
         for value in ODD_VALUES + (b"a", ["show one"], ("show one",), {}, Reply("error", "text")):
             if value != "":
                 self.check_right({"one": numbers(2)}, value, "error", "text")
-                for wrong in (("done",), ("error",), ("error", "malformed"), ("error", "text", (1,)), ("error", "text", []),
+                for wrong in (("done",), ("error",), ("error", "malformed"), ("error", "text", (1,)),
+                              ("error", "text", []),
                               ("number", "0"), ("Error", "text")):
                     self.check_wrong({"one": numbers(2)}, value, *wrong)
 
     def test_other_papers_that_are_accepted(self):
-        for algebra in (direct_product(field(2), truncated(2, 3)), direct_product(numbers(3), truncated(3, 2)), numbers(5, 3),
+        for algebra in (direct_product(field(2), truncated(2, 3)), direct_product(numbers(3), truncated(3, 2)),
+                        numbers(5, 3),
                         triangular_algebra(7, 2)):
             names = {"a": algebra}
             word, space, k, blocks = radical_paper(algebra)
@@ -370,22 +393,27 @@ class IsRightTest(unittest.TestCase):
             names = {"a": algebra}
             word, space, k, blocks = radical_paper(algebra)
             pairs = "; ".join(f"{m} {d}" for m, d in wedderburn_type(algebra))
-            for paper in ((word, space, k - 1, blocks), (word, space, k, blocks[:-1]), (word, space, k, blocks + blocks[:1]),
-                          (word, space[:-1], k, blocks), (word, (), 1, blocks), (word, space, k, ()), (word, space, True, blocks),
-                          (word, list(space), k, blocks), (word, space, k, list(blocks)), ("primitive", space, k, blocks),
+            for paper in ((word, space, k - 1, blocks), (word, space, k, blocks[:-1]),
+                          (word, space, k, blocks + blocks[:1]),
+                          (word, space[:-1], k, blocks), (word, (), 1, blocks), (word, space, k, ()),
+                          (word, space, True, blocks),
+                          (word, list(space), k, blocks), (word, space, k, list(blocks)),
+                          ("primitive", space, k, blocks),
                           radical_paper(numbers(algebra.p)), (word, space, k), (word, space, k, blocks, ())):
                 self.assertIs(takes_radical(algebra, paper), False)
                 self.check_wrong(names, "radical a", "number", str(len(space)), paper)
                 self.check_wrong(names, "structure a", "structure", pairs, paper)
             word, parts = primitive_paper(algebra)
-            for paper in ((word, parts[:-1]), (word, parts + parts[:1]), (word, list(parts)), (word, ()), ("radical", parts), (word,),
+            for paper in ((word, parts[:-1]), (word, parts + parts[:1]), (word, list(parts)), (word, ()),
+                          ("radical", parts), (word,),
                           (word, parts, ()), primitive_paper(numbers(algebra.p))):
                 self.check_wrong(names, "primitive a", "number", str(len(parts)), paper)
                 self.check_wrong(names, "primitive a", "number", str(len(paper[1]) if len(paper) > 1 else 0), paper)
 
     def test_isomorphic_yes(self):
         for p in PRIMES:
-            names = {"a": numbers(p, 3), "b": changed(numbers(p, 3), [(1, 1, 0), (0, 1, 1), (0, 0, 1)]), "c": numbers(p, 2)}
+            names = {"a": numbers(p, 3), "b": changed(numbers(p, 3), [(1, 1, 0), (0, 1, 1), (0, 0, 1)]),
+                     "c": numbers(p, 2)}
             one, two = map_paper(names["a"], names["b"]), map_paper(names["b"], names["a"])
             self.assertNotEqual(one, two)
             self.check_right(names, "isomorphic a b", "isomorphic", "yes", one)
@@ -415,17 +443,23 @@ class IsRightTest(unittest.TestCase):
                     self.assertIs(is_right(names, (line, Reply("isomorphic", "no", data))), right)
                     self.check_wrong(names, line, "isomorphic", "yes", data)
                     if right:
-                        turned = ("unlike", papers[a][:3] + (papers[a][3][::-1],), papers[b][:3] + (papers[b][3][::-1],))
+                        turned = ("unlike", papers[a][:3] + (papers[a][3][::-1],),
+                                  papers[b][:3] + (papers[b][3][::-1],))
                         self.check_right(names, line, "isomorphic", "no", turned)
-                        for wrong in (("unlike", papers[b], papers[a]), ("unlike", papers[a], papers[a]), ("unlike", papers[b], papers[b]),
-                                      ("unlike", papers[a]), data + (papers[a],), ("Unlike", papers[a], papers[b]), list(data),
-                                      ("like", papers[a], papers[b]), ("unlike", list(papers[a]), papers[b]), (None, *data[1:]),
-                                      ("unlike", papers[a], list(papers[b])), ("unlike", papers[a], None), data[1:], ("map", *data[1:])):
+                        for wrong in (("unlike", papers[b], papers[a]), ("unlike", papers[a], papers[a]),
+                                      ("unlike", papers[b], papers[b]),
+                                      ("unlike", papers[a]), data + (papers[a],), ("Unlike", papers[a], papers[b]),
+                                      list(data),
+                                      ("like", papers[a], papers[b]), ("unlike", list(papers[a]), papers[b]),
+                                      (None, *data[1:]),
+                                      ("unlike", papers[a], list(papers[b])), ("unlike", papers[a], None), data[1:],
+                                      ("map", *data[1:])):
                             self.check_wrong(names, line, "isomorphic", "no", wrong)
 
     def test_isomorphic_with_a_radical(self):
         for p in PRIMES:
-            names = {"d": Algebra(p, DUAL), "t": triangular_algebra(p, 2), "o": opposite(triangular_algebra(p, 2)), "n": numbers(p, 2)}
+            names = {"d": Algebra(p, DUAL), "t": triangular_algebra(p, 2), "o": opposite(triangular_algebra(p, 2)),
+                     "n": numbers(p, 2)}
             papers = {name: radical_paper(algebra) for name, algebra in names.items()}
             for a in "dton":
                 for b in "dton":
@@ -454,7 +488,8 @@ class IsRightTest(unittest.TestCase):
         names = {"a": numbers(2)}
         paper, parts = radical_paper(numbers(2)), primitive_paper(numbers(2))
         for line, kind, text, data in (("radical b", "number", "0", paper), ("structure b", "structure", "1 1", paper),
-                                       ("primitive b", "number", "1", parts), ("isomorphic a b", "isomorphic", "yes", ("map", ((1,),))),
+                                       ("primitive b", "number", "1", parts),
+                                       ("isomorphic a b", "isomorphic", "yes", ("map", ((1,),))),
                                        ("isomorphic b a", "isomorphic", "yes", ("map", ((1,),)))):
             self.check_wrong(names, line, kind, text, data)
             self.check_right(names, line, "error", "refused name")
@@ -465,13 +500,18 @@ class IsRightTest(unittest.TestCase):
         names = {"one": numbers(2)}
         reply = reply_to(names, "show one")
         self.assertIs(is_right(names, ("show one", reply)), True)
-        for value in ODD_VALUES + (["show one", reply], ("show one",), ("show one", reply, reply), ("show one", fields_of(reply)),
-                                   ("show one", str(reply)), ("show one", None), (reply, "show one"), reply, "show one", b"", {},
-                                   {"show one": reply}, [("show one", reply)], (("show one", reply),), ("show one", [reply]),
+        for value in ODD_VALUES + (["show one", reply], ("show one",), ("show one", reply, reply),
+                                   ("show one", fields_of(reply)),
+                                   ("show one", str(reply)), ("show one", None), (reply, "show one"), reply, "show one",
+                                   b"", {},
+                                   {"show one": reply}, [("show one", reply)], (("show one", reply),),
+                                   ("show one", [reply]),
                                    ("show one", vars(reply)), (reply, reply)):
             self.assertIs(is_right(names, value), False, value)
-        for line in ("radical one", "structure one", "primitive one", "isomorphic one one", "index one", "", "x", "let a = 2 1: 1"):
-            for value in ODD_VALUES + (reply_to(names, line).data, fields_of(reply_to(names, line)), vars(reply_to(names, line))):
+        for line in ("radical one", "structure one", "primitive one", "isomorphic one one", "index one", "", "x",
+                     "let a = 2 1: 1"):
+            for value in ODD_VALUES + (reply_to(names, line).data, fields_of(reply_to(names, line)),
+                                       vars(reply_to(names, line))):
                 self.assertIs(is_right(names, (line, value)), False)
 
     def test_texts_that_no_data_show(self):

@@ -5,7 +5,8 @@ import unittest
 from algebras import DUAL, drawn_algebras, field, least_algebras, members_of, numbers, truncated
 from samples import PRIMES, check_malformed, kinds_of, spanned, unchanged
 from shapes import (
-    all_modules, every_submodule, families, larger_algebras, plain_series, point_module, table_of_set, turned, zero_module,
+    all_modules, every_submodule, families, larger_algebras, plain_series, point_module, table_of_set, turned,
+    zero_module,
 )
 from test_centre import NO_ELEMENTS
 from test_modules import closing, columns_module, identity, vectors_of
@@ -111,7 +112,8 @@ class RadicalAndSocleTest(unittest.TestCase):
             self.assertEqual(kinds_of(lower), kinds_of(table_of_set(module, common(greatest, whole))))
             self.assertEqual(kinds_of(upper), kinds_of(table_of_set(module, joined(module, least))))
             sizes.add((module.m, len(lower), len(upper)))
-        self.assertTrue({(0, 0, 0), (1, 0, 1), (2, 0, 2), (2, 1, 1), (3, 1, 2), (3, 2, 1), (3, 2, 2), (4, 1, 3)} <= sizes,
+        self.assertTrue({(0, 0, 0), (1, 0, 1), (2, 0, 2), (2, 1, 1), (3, 1, 2), (3, 2, 1), (3, 2, 2),
+                         (4, 1, 3)} <= sizes,
                         sizes)
 
     def test_by_the_words_of_the_point(self):
@@ -267,7 +269,8 @@ class MultiplicitiesTest(unittest.TestCase):
             found = unchanged(self, multiplicities, module)
             self.assertEqual(kinds_of(found), kinds_of(self.plain_multiplicities(module, seed)))
             seen.add((module.m, tuple(sorted(found))))
-        self.assertTrue({(0, (0,)), (1, (0, 1)), (2, (0, 1)), (2, (1,)), (2, (2,)), (3, (1, 2)), (4, (2,))} <= seen, seen)
+        self.assertTrue({(0, (0,)), (1, (0, 1)), (2, (0, 1)), (2, (1,)), (2, (2,)), (3, (1, 2)), (4, (2,))} <= seen,
+                        seen)
 
     def test_degrees_above_1(self):
         for seed, algebra in enumerate([field(2), field(3), field(2, 3), tensor_product(field(2), Algebra(2, DUAL)),
@@ -334,7 +337,8 @@ class CartanMatrixTest(unittest.TestCase):
             self.assertIn(cartan_matrix(triangular_algebra(p, 2)), (((1, 1), (0, 1)), ((1, 0), (1, 1))))
         self.assertIn(cartan_matrix(path_algebra(3, 2, [(0, 1), (0, 1)])), (((1, 2), (0, 1)), ((1, 0), (2, 1))))
         self.assertEqual(cartan_matrix(tensor_product(field(2), truncated(2, 3))), ((3,),))
-        self.assertIn(cartan_matrix(tensor_product(triangular_algebra(2, 2), field(2))), (((1, 1), (0, 1)), ((1, 0), (1, 1))))
+        self.assertIn(cartan_matrix(tensor_product(triangular_algebra(2, 2), field(2))),
+                      (((1, 1), (0, 1)), ((1, 0), (1, 1))))
         self.assertEqual(sorted(cartan_matrix(group_algebra(2, dihedral_table(3)))), [(0, 1), (2, 0)])
 
     def test_fields_of_unlike_degrees_on_the_two_sides(self):

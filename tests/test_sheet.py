@@ -19,7 +19,8 @@ NAMES = ("a", "b", "abcdefgh", "let", "show", "zz")
 NUMBERS = ("0", "2", "99")
 DUAL_TEXT = "2 2: 10 01 01 00"
 WRONG_NAMES = ("abcdefghi", "A", "aB", "a1", "1", "a_b", "a-b", "a.", "=", "#", "a#", "a,", "~", "x=")
-WRONG_NUMBERS = ("00", "01", "07", "099", "100", "1000", "-1", "-0", "+1", "+0", "1.", "1.0", "1e1", "1_0", "0x1", "a", "=", "",
+WRONG_NUMBERS = ("00", "01", "07", "099", "100", "1000", "-1", "-0", "+1", "+0", "1.", "1.0", "1e1", "1_0", "0x1", "a",
+                 "=", "",
                  "9" * 500)
 
 
@@ -50,7 +51,8 @@ class CommandsTest(unittest.TestCase):
 
     def test_all_names_and_numbers(self):
         letters = "abcdefghijklmnopqrstuvwxyz"
-        for name in list(NAMES) + list(letters) + ["a" * k for k in range(1, 9)] + [letters[k:k + 8] for k in range(26)]:
+        for name in list(NAMES) + list(letters) + ["a" * k for k in range(1,
+                                                                          9)] + [letters[k:k + 8] for k in range(26)]:
             self.check_command(f"show {name}", ("show", name))
             self.check_command(f"product {name} {name} {name}", ("product", name, name, name))
         for number in range(100):
@@ -67,7 +69,8 @@ class CommandsTest(unittest.TestCase):
                         self.check_command(line, command_of(words))
 
     def test_empty_lines(self):
-        for line in ("", " ", "   ", " " * 2000, "#", "##", "# ", "#a", "# let a", "#let a = x", "# show ~!", "#" * 2000):
+        for line in ("", " ", "   ", " " * 2000, "#", "##", "# ", "#a", "# let a", "#let a = x", "# show ~!",
+                     "#" * 2000):
             self.check_command(line, ("empty",))
         for line in (" #", "  # a", " " * 1999 + "#", "a #", "show a #", "show #"):
             check_no_text(self, read_line, line)
@@ -83,7 +86,8 @@ class CommandsTest(unittest.TestCase):
     def test_characters(self):
         for number in list(range(32)) + [127, 128, 133, 160, 8192, 8232, 12288, 65279, 128512]:
             letter = chr(number)
-            for line in (letter, "#" + letter, "show a" + letter, letter + "show a", "show" + letter + "a", "show a" + letter + "b",
+            for line in (letter, "#" + letter, "show a" + letter, letter + "show a", "show" + letter + "a",
+                         "show a" + letter + "b",
                          "# a" + letter + "b", "let a = " + DUAL_TEXT + letter):
                 check_no_text(self, read_line, line)
         every = "".join(chr(number) for number in range(32, 127))
@@ -102,11 +106,13 @@ class CommandsTest(unittest.TestCase):
     def test_wrong_numbers_of_tokens(self):
         for word in FORMS:
             tokens = tokens_of(word)
-            for wrong in [tokens[:k] for k in range(len(tokens))] + [tokens + [token] for token in ("a", "2", "=", "#")]:
+            for wrong in [tokens[:k] for k in range(len(tokens))] + [tokens + [token] for token in ("a", "2", "=",
+                                                                                                    "#")]:
                 check_no_text(self, read_line, " ".join([word] + wrong))
 
     def test_unknown_words(self):
-        for word in ("Show", "SHOW", "sho", "shows", "a", "2", "=", "empty", "define", "matrix", "ideal", "center", "lets", "le",
+        for word in ("Show", "SHOW", "sho", "shows", "a", "2", "=", "empty", "define", "matrix", "ideal", "center",
+                     "lets", "le",
                      "show,", "'show'", "~", "radicals", "Let", "LET"):
             for rest in ("", " a", " a b", " a b c", " a 2 2", " a = " + DUAL_TEXT):
                 check_no_text(self, read_line, word + rest)
@@ -129,7 +135,8 @@ class LetTest(unittest.TestCase):
     def test_spaces(self):
         dual = Algebra(2, DUAL)
         for name in NAMES:
-            for line in (f"let {name} = {DUAL_TEXT}", f"  let   {name}    =   {DUAL_TEXT}   ", f"let {name} = {DUAL_TEXT} ",
+            for line in (f"let {name} = {DUAL_TEXT}", f"  let   {name}    =   {DUAL_TEXT}   ",
+                         f"let {name} = {DUAL_TEXT} ",
                          f" let {name} =   {DUAL_TEXT}", f"let   {name} = {DUAL_TEXT}" + " " * 1900):
                 self.check_let(line, name, dual)
 
@@ -139,9 +146,11 @@ class LetTest(unittest.TestCase):
             self.check_let(f"let abcdefgh = {algebra}", "abcdefgh", algebra)
 
     def test_without_the_form(self):
-        for line in ("let", "let a", "let a =", "let a = ", "let =", f"let = {DUAL_TEXT}", f"let a {DUAL_TEXT}", DUAL_TEXT,
+        for line in ("let", "let a", "let a =", "let a = ", "let =", f"let = {DUAL_TEXT}", f"let a {DUAL_TEXT}",
+                     DUAL_TEXT,
                      f"let a ={DUAL_TEXT}", f"let a= {DUAL_TEXT}", f"let a={DUAL_TEXT}", f"leta = {DUAL_TEXT}",
-                     f"let a b = {DUAL_TEXT}", f"let a == {DUAL_TEXT}", f"let a = = {DUAL_TEXT}", f"let a := {DUAL_TEXT}",
+                     f"let a b = {DUAL_TEXT}", f"let a == {DUAL_TEXT}", f"let a = = {DUAL_TEXT}",
+                     f"let a := {DUAL_TEXT}",
                      f"a = {DUAL_TEXT}", f"let a = {DUAL_TEXT} =", f"let a = {DUAL_TEXT} #", f"let {DUAL_TEXT} = a",
                      f"let = a {DUAL_TEXT}", f"let let a = {DUAL_TEXT}"):
             check_no_text(self, read_line, line)
@@ -149,9 +158,12 @@ class LetTest(unittest.TestCase):
             check_no_text(self, read_line, f"let {name} = {DUAL_TEXT}")
 
     def test_texts_of_no_algebra(self):
-        for text in ("2  2: 10 01 01 00", "2 2 : 10 01 01 00", "2 2: 10  01 01 00", "2 2: 10 01 01", "2 2: 10 01 01 00 00",
-                     "2 2: 10 01 01 02", "4 2: 10 01 01 00", "2 2: 10 01 10 00", "2 1: 0", "2 2:10 01 01 00", "a", "1", "2",
-                     "2 2:", "2 2: 10, 01, 01, 00", "02 2: 10 01 01 00", "2 0:", "2 13:", DUAL_TEXT + " x", DUAL_TEXT + "x",
+        for text in ("2  2: 10 01 01 00", "2 2 : 10 01 01 00", "2 2: 10  01 01 00", "2 2: 10 01 01",
+                     "2 2: 10 01 01 00 00",
+                     "2 2: 10 01 01 02", "4 2: 10 01 01 00", "2 2: 10 01 10 00", "2 1: 0", "2 2:10 01 01 00", "a", "1",
+                     "2",
+                     "2 2:", "2 2: 10, 01, 01, 00", "02 2: 10 01 01 00", "2 0:", "2 13:", DUAL_TEXT + " x",
+                     DUAL_TEXT + "x",
                      "x" + DUAL_TEXT, "x " + DUAL_TEXT, "= " + DUAL_TEXT, "=" + DUAL_TEXT, DUAL_TEXT + "."):
             check_no_text(self, read_line, f"let a = {text}")
 
